@@ -13,6 +13,12 @@ import (
 
 const end = 1 << 31
 
+// Matrices are of nine numbers.
+var (
+	_ = [9]int64(mat.M{})
+	_ = [9]wide.Int(mat.Wide{})
+)
+
 // outside are numbers that are too far from 0.
 var outside = []int64{end + 1, -end - 1, 1 << 32, -1 << 32, 1 << 40, math.MaxInt64, math.MinInt64, math.MinInt64 + 1}
 
